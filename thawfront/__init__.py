@@ -1,0 +1,1 @@
+"""Thawfront: how deep frozen ground thaws, by heat and cold, year upon year."""
