@@ -3,11 +3,12 @@
 import copy
 import unittest
 
-from thawfront import beds
+from thawfront import beds, rules, years
 
 NEEDS = [5, 3, 4]
 MANY_HEATS = ([0, 0, 0], [5, 3, 4], [5, 0, 4], [2, 3, 1])
 ROWS = ([], [("warm", 0)], [("cold", 0)], [("warm", 6), ("cold", 3)], [("cold", 4), ("warm", 100)])
+TIMES = (1, 2, 3, 10 ** 18)
 
 
 def list_calls():
@@ -19,14 +20,28 @@ def list_calls():
         for row in ROWS:
             yield beds.passed, (NEEDS, heats, row)
         yield beds.thawed_beds, (NEEDS, heats)
+        for year in ROWS[1:]:
+            for times in TIMES:
+                yield years.years_passed, (NEEDS, heats, year, times)
+                yield years.heats_at, (NEEDS, heats, year, times, 1)
+                yield years.heats_at, (NEEDS, heats, year, times, len(year))
 
 
 def number_calls():
-    """Each function that tells a number alone."""
+    """Each function that tells numbers alone."""
+    for row in ROWS:
+        yield rules.row_rule, (12, row)
+    for year in ROWS[1:]:
+        for times in TIMES:
+            yield rules.year_rule, (12, year, times)
     for heats in MANY_HEATS:
         for bed in (1, 2, 3):
             yield beds.heat_down_to, (heats, bed)
         yield beds.front_of, (NEEDS, heats)
+        for year in ROWS[1:]:
+            yield years.rest_of, (NEEDS, heats, year)
+            for bed in (1, 2, 3):
+                yield years.first_season, (NEEDS, heats, bed, year)
 
 
 def told_list(told):

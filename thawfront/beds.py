@@ -1,19 +1,6 @@
 """Beds from the lowest up, the heat in them, and the seasons that pass over them."""
 
-from thawfront.errors import BadAmount, UnknownBed
-from thawfront.sizes import MOST_AMOUNT
-
-
-# The words of a refusal leave out the number that was handed in: it may have
-# more digits than Python is willing to write.
-def check_amount(amount):
-    if amount < 0 or amount > MOST_AMOUNT:
-        raise BadAmount(f"an amount is from 0 to {MOST_AMOUNT}")
-
-
-def check_bed(count, bed):
-    if bed < 1 or bed > count:
-        raise UnknownBed(f"the beds are numbered from 1 to {count}")
+from thawfront.checks import check_amount, check_bed
 
 
 # A bed stays the topmost one that can take part until it can do so no more, so
